@@ -1,0 +1,1 @@
+"""An editor of texts by keys; see fewkeys.editor.answers."""
