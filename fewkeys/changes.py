@@ -92,12 +92,14 @@ def join_lines(state, command):
     behind = state.line + max(command.times(), 2)
     if behind > len(state.rows):
         raise Bell()
-    joined = state.row()
+    joined = list(state.row())
     column = 0
     for row in state.rows[state.line + 1:behind]:
         other = row[indent(row):]
         column = len(joined)
-        joined = joined + ([SPACE] if needs_space(joined, other) else []) + other
+        if needs_space(joined, other):
+            joined.append(SPACE)
+        joined.extend(other)
     return Outcome(state.line, column, state.line, behind, [joined])
 
 

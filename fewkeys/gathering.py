@@ -10,7 +10,7 @@ RETURN = 13
 ESCAPE = 27
 ZERO = 48
 NINE = 57
-MOST_KEYS = 4096
+MOST_INNER = 4096
 
 # What the next key is to be; the numbers are the places of the functions in STAGES.
 AT_START = 0
@@ -187,7 +187,7 @@ def take_printed(gathering, key):
 def count_inner(gathering):
     """One key more of those that may be 4096 at most before the key that ends them."""
     gathering.inner += 1
-    if gathering.inner > MOST_KEYS:
+    if gathering.inner > MOST_INNER:
         raise Bell()
 
 
